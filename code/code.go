@@ -20,6 +20,32 @@ func HasN(op int) bool {
 	return false
 }
 
+// GoesToN tells whether an instruction can go to the place n.
+func GoesToN(op int) bool {
+	switch op {
+	case api.OpJump, api.OpZero, api.OpLess, api.OpNil:
+		return true
+	}
+	return false
+}
+
+// GoesOn tells whether an instruction can go on to the next one.
+func GoesOn(op int) bool {
+	switch op {
+	case api.OpJump, api.OpReturn, api.OpThrow:
+		return false
+	}
+	return true
+}
+
+// Next gives the place behind an instruction.
+func Next(one Instruction) int {
+	if HasN(one.Op) {
+		return one.Place + 2
+	}
+	return one.Place + 1
+}
+
 // Read gives the instructions one behind the other; or false, and the place of the first that can't be read.
 func Read(bytes []int) ([]Instruction, int, bool) {
 	var list []Instruction
@@ -29,35 +55,36 @@ func Read(bytes []int) ([]Instruction, int, bool) {
 		if one.Op < api.OpConst || one.Op > api.OpOut {
 			return nil, one.Place, false
 		}
-		at++
 		if HasN(one.Op) {
-			if at >= len(bytes) {
+			if at+1 >= len(bytes) {
 				return nil, one.Place, false
 			}
-			one.N = bytes[at]
-			at++
+			one.N = bytes[at+1]
 		}
 		list = append(list, one)
+		at = Next(one)
 	}
 	return list, 0, true
 }
 
-// Begins tells whether an instruction begins at a place.
-func Begins(list []Instruction, place int) bool {
+// At gives the instruction that begins at a place, if one does.
+func At(list []Instruction, place int) (Instruction, bool) {
 	for _, one := range list {
 		if one.Place == place {
-			return true
+			return one, true
 		}
 	}
-	return false
+	return Instruction{}, false
+}
+
+// Begins tells whether an instruction begins at a place.
+func Begins(list []Instruction, place int) bool {
+	_, there := At(list, place)
+	return there
 }
 
 // IsNew tells whether an instruction New begins at a place.
 func IsNew(list []Instruction, place int) bool {
-	for _, one := range list {
-		if one.Place == place {
-			return one.Op == api.OpNew
-		}
-	}
-	return false
+	one, there := At(list, place)
+	return there && one.Op == api.OpNew
 }

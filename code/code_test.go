@@ -32,3 +32,12 @@ func TestReadRefuses(t *testing.T) {
 		}
 	}
 }
+
+func TestWays(t *testing.T) {
+	for op := 0; op <= 25; op++ {
+		toN, on := op >= 11 && op <= 14, op != 11 && op != 22 && op != 23
+		if code.GoesToN(op) != toN || code.GoesOn(op) != on {
+			t.Errorf("instruction %d: GoesToN %v, GoesOn %v", op, code.GoesToN(op), code.GoesOn(op))
+		}
+	}
+}

@@ -115,10 +115,7 @@ func ofForm(e api.Errno) bool { return e >= api.ErrLong && e <= api.ErrMap }
 // wantError: Check answers that error of form with these two numbers, and Strip the same error and nothing else.
 func wantError(t *testing.T, what, file string, e api.Errno, which, at int) {
 	t.Helper()
-	gotE, gotWhich, gotAt := stackmap.Check(file)
-	if gotE != e || gotWhich != which || gotAt != at {
-		t.Errorf("%s: Check = %d, %d, %d, want %d, %d, %d", what, gotE, gotWhich, gotAt, e, which, at)
-	}
+	wantCheck(t, what, file, e, which, at)
 	if s, gotE := stackmap.Strip(file); s != "" || gotE != e {
 		t.Errorf("%s: Strip = %q, %d, want error %d", what, s, gotE, e)
 	}
@@ -136,13 +133,20 @@ func wantForm(t *testing.T, what, file string) {
 	}
 }
 
+// wantCheck: Check answers just that.
+func wantCheck(t *testing.T, what, file string, e api.Errno, which, at int) {
+	t.Helper()
+	gotE, gotWhich, gotAt := stackmap.Check(file)
+	if gotE != e || gotWhich != which || gotAt != at {
+		t.Errorf("%s: Check = %d, %d, %d, want %d, %d, %d", what, gotE, gotWhich, gotAt, e, which, at)
+	}
+}
+
 // wantOK: nothing at all against the file.
 func wantOK(t *testing.T, what, file string) {
 	t.Helper()
 	wantForm(t, what, file)
-	if e, which, at := stackmap.Check(file); e != api.OK || which != 0 || at != 0 {
-		t.Errorf("%s: Check = %d, %d, %d, want OK", what, e, which, at)
-	}
+	wantCheck(t, what, file, api.OK, 0, 0)
 }
 
 // wantIf: no error of form if good, else that error.

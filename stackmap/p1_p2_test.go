@@ -14,12 +14,15 @@ func holdAgainstWords(t *testing.T, file string) verdict {
 	t.Helper()
 	want, bare := byWords(file)
 	e, which, at := stackmap.Check(file)
-	got := verdict{e, which, at}
-	if ofForm(want.e) && got != want || !ofForm(want.e) && ofForm(e) || e == api.OK && got != (verdict{}) {
+	if got := (verdict{e, which, at}); got != want {
 		t.Errorf("Check(%q) = %v, want %v", file, got, want)
 	}
-	if s, e := stackmap.Strip(file); s != bare || e != want.e {
-		t.Errorf("Strip(%q) = %q, %d, want %q, %d", file, s, e, bare, want.e)
+	form := want.e
+	if !ofForm(form) {
+		form = api.OK
+	}
+	if s, e := stackmap.Strip(file); s != bare || e != form {
+		t.Errorf("Strip(%q) = %q, %d, want %q, %d", file, s, e, bare, form)
 	}
 	return want
 }
@@ -32,6 +35,9 @@ func sources() []string {
 		holder(api.OpReturn, api.OpSend, 1, api.OpCall, 0, api.OpJump, 0, api.OpPut, 2, api.OpCast, 10).file(),
 		guarded([]handler{{0, 3, 7, 1}, {1, 8, 5, 9}}, []stackMap{{1, []pair{raw(1), ref(9)}, nil}, {7, []pair{nullType, topType}, []pair{raw(5), intType}}}),
 		withMethods(ownMethod(9, 3, intType, ref(7)), ownMethod(7, 3, intType, ref(7)), ownMethod(8, 3, intType, ref(7)), ownMethod(10, 3, topType)),
+		// Examples B and C with their maps.
+		text(83, 77, 0, 1, 255, 0, 0, 0, 0, 1, 2, 19, 24, 3, 0, 2, 0, 25, 2, 0, 0, 1, 8, 5, 3, 0, 12, 18, 11, 3, 22, 0, 2, 3, 1, 0, 0, 18, 1, 0, 0),
+		text(83, 77, 0, 1, 255, 0, 0, 1, 0, 0, 2, 9, 0, 6, 24, 10, 22, 4, 0, 255, 22, 1, 0, 4, 5, 2, 1, 5, 1, 3, 2),
 	}
 }
 
@@ -45,7 +51,7 @@ func TestP1EveryByteChanged(t *testing.T) {
 			}
 		}
 	}
-	for e := api.ErrForm; e <= api.ErrMap; e++ {
+	for e := api.ErrForm; e <= api.ErrEnd; e++ {
 		if seen[e] == 0 {
 			t.Errorf("error %d never came", e)
 		}

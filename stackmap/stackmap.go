@@ -4,13 +4,18 @@ package stackmap
 import (
 	"stackmap/api"
 	"stackmap/faults"
+	"stackmap/flow"
 	"stackmap/layout"
 	"stackmap/types"
 )
 
 // Check tells whether a file is one, and whether each method's types are right, by its maps (P3 to P7, P10, P11).
 func Check(file string) (api.Errno, int, int) {
-	_, fault := read(file)
+	f, fault := read(file)
+	if fault.Err != api.OK {
+		return fault.Err, fault.Which, fault.At
+	}
+	fault = flow.Find(f)
 	return fault.Err, fault.Which, fault.At
 }
 

@@ -220,7 +220,7 @@ func (p program) bodyVerdict(i int) verdict {
 	return verdict{}
 }
 
-// byWords: the error of form that the document's words give for a file, and the file without its maps if there is none.
+// byWords: what the document's words give for a file, and the file without its maps if it has no error of form.
 func byWords(file string) (verdict, string) {
 	if len(file) > 15000 {
 		return verdict{e: api.ErrLong}, ""
@@ -244,8 +244,9 @@ func byWords(file string) (verdict, string) {
 			return v, ""
 		}
 	}
+	v := typesByWords(p)
 	for i := range p.methods {
 		p.methods[i].maps = nil
 	}
-	return verdict{}, p.file()
+	return v, p.file()
 }

@@ -9,9 +9,10 @@ import (
 // none stands for the class above Object, and above what is no class.
 const none = -1
 
-// Tree has, for each class of a file, the number of the class right above it.
+// Tree has, for each class of a file, the number of the class right above it, and the types of its own fields.
 type Tree struct {
-	above []int
+	above  []int
+	fields [][]api.Type
 }
 
 // TreeOf gives the tree of a file's classes. Until the classes were looked at (ErrClass) it may be no tree: it can be asked all the same.
@@ -20,10 +21,12 @@ func TreeOf(f layout.File) Tree {
 	for len(above) < api.FirstOwn {
 		above = append(above, api.ClassFault)
 	}
+	fields := make([][]api.Type, api.FirstOwn)
 	for _, c := range f.Classes {
 		above = append(above, c.Above)
+		fields = append(fields, c.Fields)
 	}
-	return Tree{above: above}
+	return Tree{above: above, fields: fields}
 }
 
 // Has tells whether a number is that of a class.

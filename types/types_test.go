@@ -1,6 +1,7 @@
 package types_test
 
 import (
+	"fmt"
 	"testing"
 
 	"stackmap/api"
@@ -40,6 +41,33 @@ func TestNoTreeEnds(t *testing.T) {
 				tree.Below(a, b)
 				tree.Join(api.Type{Kind: api.Ref, N: a}, api.Type{Kind: api.Ref, N: b})
 			}
+			tree.FieldsOf(a)
+		}
+	}
+}
+
+func TestFields(t *testing.T) {
+	whole, object, own := api.Type{Kind: api.Int}, api.Type{Kind: api.Ref}, api.Type{Kind: api.Ref, N: 8}
+	tree := types.TreeOf(layout.File{Classes: []layout.Class{
+		{Above: 0, Fields: []api.Type{whole, own}},
+		{Above: 7},
+		{Above: 8, Fields: []api.Type{object}},
+		{Above: 7, Fields: []api.Type{whole}},
+	}})
+	classes, list := []int{7, 7, 9, 10}, []api.Type{whole, own, object, whole}
+	for n := range list {
+		if class, field := tree.Field(n); class != classes[n] || field != list[n] {
+			t.Errorf("Field(%d) = %d, %v", n, class, field)
+		}
+	}
+	for _, n := range []int{-1, 4, 255} {
+		if class, field := tree.Field(n); tree.Has(class) || field != (api.Type{}) {
+			t.Errorf("Field(%d) = %d, %v", n, class, field)
+		}
+	}
+	for class, want := range [][]api.Type{7: {whole, own}, 8: {whole, own}, 9: {whole, own, object}, 10: {whole, own, whole}, 11: {}} {
+		if got := tree.FieldsOf(class); fmt.Sprint(got) != fmt.Sprint(want) {
+			t.Errorf("FieldsOf(%d) = %v, want %v", class, got, want)
 		}
 	}
 }
