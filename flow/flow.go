@@ -87,7 +87,7 @@ func (p pass) look(one code.Instruction, ahead rules.Frame) (rules.Frame, api.Er
 
 func (p pass) lookAtHandlers(place int, ahead rules.Frame) api.Errno {
 	for _, h := range p.method.Handlers {
-		if place < h.From || place >= h.To {
+		if !h.Covers(place) {
 			continue
 		}
 		caught := ahead.Caught(h.Class)

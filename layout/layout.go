@@ -31,6 +31,11 @@ type Handler struct {
 	From, To, Target, Class int
 }
 
+// Covers tells whether what is thrown at a place may go to the handler.
+func (h Handler) Covers(place int) bool {
+	return h.From <= place && place < h.To
+}
+
 // Map: the types of the locals and of the stack at a place, the top of the stack last.
 type Map struct {
 	Place         int

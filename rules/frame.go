@@ -52,6 +52,28 @@ func allFit(tree types.Tree, list, other []api.Type) bool {
 	return true
 }
 
+// Join gives the frame that both fit and that fits every other one that both fit; or false, if there is none: then their stacks are not equally high.
+func (f Frame) Join(tree types.Tree, other Frame) (Frame, bool) {
+	if len(f.Locals) != len(other.Locals) || len(f.Stack) != len(other.Stack) {
+		return Frame{}, false
+	}
+	locals := allJoined(tree, f.Locals, other.Locals)
+	stack := allJoined(tree, f.Stack, other.Stack)
+	return Frame{Locals: locals, Stack: stack}, true
+}
+
+// allJoined goes as far as the shorter list: its caller has them equally long.
+func allJoined(tree types.Tree, list, other []api.Type) []api.Type {
+	var joined []api.Type
+	for i, t := range list {
+		if i < len(other) {
+			j := tree.Join(t, other[i])
+			joined = append(joined, j)
+		}
+	}
+	return joined
+}
+
 func top() api.Type          { return api.Type{Kind: api.Top} }
 func whole() api.Type        { return api.Type{Kind: api.Int} }
 func null() api.Type         { return api.Type{Kind: api.Null} }

@@ -112,12 +112,15 @@ func alone(m method) string { return program{methods: []method{m}}.file() }
 
 func ofForm(e api.Errno) bool { return e >= api.ErrLong && e <= api.ErrMap }
 
-// wantError: Check answers that error of form with these two numbers, and Strip the same error and nothing else.
+// wantError: Check answers that error of form with these two numbers, Prepare with the first of them, and Strip alone.
 func wantError(t *testing.T, what, file string, e api.Errno, which, at int) {
 	t.Helper()
 	wantCheck(t, what, file, e, which, at)
 	if s, gotE := stackmap.Strip(file); s != "" || gotE != e {
 		t.Errorf("%s: Strip = %q, %d, want error %d", what, s, gotE, e)
+	}
+	if s, gotE, gotWhich := stackmap.Prepare(file); s != "" || gotE != e || gotWhich != which {
+		t.Errorf("%s: Prepare = %q, %d, %d, want error %d, %d", what, s, gotE, gotWhich, e, which)
 	}
 }
 
@@ -130,6 +133,9 @@ func wantForm(t *testing.T, what, file string) {
 	}
 	if s, e := stackmap.Strip(file); s == "" || e != api.OK {
 		t.Errorf("%s: Strip = %q, %d, want a file", what, s, e)
+	}
+	if s, e, which := stackmap.Prepare(file); ofForm(e) {
+		t.Errorf("%s: Prepare = %q, %d, %d, want no error of form", what, s, e, which)
 	}
 }
 

@@ -298,7 +298,7 @@ func (d *dice) spoilMaps(m *method, some pair) {
 func TestP11Random(t *testing.T) {
 	d := &dice{1}
 	seen := map[api.Errno]int{}
-	for n := 0; n < 6000; n++ {
+	for n := 0; n < 4000; n++ {
 		p := d.program()
 		seen[holdAgainstWords(t, p.file()).e]++
 		for k := 0; k < 3; k++ {
@@ -307,7 +307,7 @@ func TestP11Random(t *testing.T) {
 		}
 	}
 	for _, e := range []api.Errno{api.OK, api.ErrNoMap, api.ErrFlow, api.ErrType, api.ErrEnd} {
-		if seen[e] < 300 {
+		if seen[e] < 200 {
 			t.Errorf("error %d came only %d times: %v", e, seen[e], seen)
 		}
 	}

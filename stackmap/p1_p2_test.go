@@ -9,7 +9,7 @@ import (
 	"stackmap/stackmap"
 )
 
-// holdAgainstWords: Check and Strip answer what the words give.
+// holdAgainstWords: Check, Strip and Prepare answer what the words give.
 func holdAgainstWords(t *testing.T, file string) verdict {
 	t.Helper()
 	want, bare := byWords(file)
@@ -23,6 +23,10 @@ func holdAgainstWords(t *testing.T, file string) verdict {
 	}
 	if s, e := stackmap.Strip(file); s != bare || e != form {
 		t.Errorf("Strip(%q) = %q, %d, want %q, %d", file, s, e, bare, form)
+	}
+	full, wantE, wantWhich := preparedByWords(file, want)
+	if s, e, which := stackmap.Prepare(file); s != full || e != wantE || which != wantWhich {
+		t.Errorf("Prepare(%q) = %q, %d, %d, want %q, %d, %d", file, s, e, which, full, wantE, wantWhich)
 	}
 	return want
 }
@@ -132,7 +136,8 @@ func answers(file string) string {
 	s, f := stackmap.Strip(file)
 	ok, g := stackmap.Fits(file, typed(ref(8)), typed(ref(7)))
 	j, h := stackmap.Join(file, typed(ref(8)), typed(ref(9)))
-	return fmt.Sprintf("%d %d %d, %q %d, %v %d, %v %d", e, which, at, s, f, ok, g, j, h)
+	full, i, w := stackmap.Prepare(file)
+	return fmt.Sprintf("%d %d %d, %q %d, %v %d, %v %d, %q %d %d", e, which, at, s, f, ok, g, j, h, full, i, w)
 }
 
 func TestP2ArgumentsAlone(t *testing.T) {

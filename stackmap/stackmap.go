@@ -6,6 +6,7 @@ import (
 	"stackmap/faults"
 	"stackmap/flow"
 	"stackmap/layout"
+	"stackmap/least"
 	"stackmap/types"
 )
 
@@ -48,7 +49,17 @@ func Join(file string, a api.Type, b api.Type) (api.Type, api.Errno) {
 }
 
 // Prepare gives the file with its least maps (P12).
-func Prepare(file string) (string, api.Errno, int) { return "", api.OK, 0 }
+func Prepare(file string) (string, api.Errno, int) {
+	f, fault := read(file)
+	if fault.Err != api.OK {
+		return "", fault.Err, fault.Which
+	}
+	filled, which, found := least.Fill(f)
+	if !found {
+		return "", api.ErrType, which
+	}
+	return layout.Write(filled), api.OK, 0
+}
 
 // Run runs a file that Check has nothing against (P13 to P15).
 func Run(file string, s api.Start) (api.Outcome, api.Errno) { return api.Outcome{}, api.OK }
