@@ -51,20 +51,33 @@ func Read(bytes []int) ([]Instruction, int, bool) {
 	var list []Instruction
 	at := 0
 	for at < len(bytes) {
-		one := Instruction{Place: at, Op: bytes[at]}
-		if one.Op < api.OpConst || one.Op > api.OpOut {
-			return nil, one.Place, false
-		}
-		if HasN(one.Op) {
-			if at+1 >= len(bytes) {
-				return nil, one.Place, false
-			}
-			one.N = bytes[at+1]
+		one, ok := ReadOne(bytes, at)
+		if !ok {
+			return nil, at, false
 		}
 		list = append(list, one)
 		at = Next(one)
 	}
 	return list, 0, true
+}
+
+// ReadOne gives the instruction whose first byte is the one at a place, if it can be read.
+func ReadOne(bytes []int, place int) (Instruction, bool) {
+	if place < 0 || place >= len(bytes) {
+		return Instruction{}, false
+	}
+	one := Instruction{Place: place, Op: bytes[place]}
+	if one.Op < api.OpConst || one.Op > api.OpOut {
+		return Instruction{}, false
+	}
+	if !HasN(one.Op) {
+		return one, true
+	}
+	if place+1 >= len(bytes) {
+		return Instruction{}, false
+	}
+	one.N = bytes[place+1]
+	return one, true
 }
 
 // At gives the instruction that begins at a place, if one does.

@@ -22,6 +22,19 @@ func TestRead(t *testing.T) {
 	}
 }
 
+func TestReadOne(t *testing.T) {
+	bytes := []int{1, 0, 255, 26, 15}
+	for place, want := range []string{"{0 1 0} true", "{1 0 255} true", "{0 0 0} false", "{0 0 0} false", "{0 0 0} false", "{0 0 0} false"} {
+		one, ok := code.ReadOne(bytes, place)
+		if got := fmt.Sprint(one, ok); got != want {
+			t.Errorf("ReadOne at %d = %s, want %s", place, got, want)
+		}
+	}
+	if one, ok := code.ReadOne(bytes, -1); ok {
+		t.Errorf("ReadOne at -1 = %v", one)
+	}
+}
+
 func TestReadRefuses(t *testing.T) {
 	for _, c := range []struct {
 		bytes []int

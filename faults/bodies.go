@@ -82,7 +82,7 @@ func (b body) handlerMayBe(h layout.Handler) bool {
 	if h.To != len(b.method.Code) && !code.Begins(b.list, h.To) {
 		return false
 	}
-	return h.Class == api.ClassFault || b.tree.Below(h.Class, api.ClassFault)
+	return b.tree.Within(h.Class, api.ClassFault)
 }
 
 func (b body) inMaps() Fault {

@@ -61,3 +61,23 @@ func TestExamplesOfPrepare(t *testing.T) {
 	wantFull(t, "D", d, d)
 	wantNone(t, "Get of what is not set", oneClass+text(1, 0, 0, 3, 5, 15, 7, 17, 0, 22, 0, 0), 0)
 }
+
+func TestExamplesOfRun(t *testing.T) {
+	a, b, c, d := exampleA, exampleB, exampleC, exampleD
+	s := api.Start{Inputs: []int{41}, Depth: 1, Fuel: 9}
+	wantRun(t, "A", a, s, returned(42, 6))
+	s.Fuel = 5
+	wantRun(t, "A with fuel 5", a, s, outOf(5))
+	s.Fuel = 6
+	wantRun(t, "A with fuel 6", a, s, returned(42, 6))
+	s.Inputs = []int{2147483647}
+	wantRun(t, "A with the greatest number", a, s, returned(-2147483648, 6))
+	wantRefused(t, "B without maps", b+text(0), easy(3), api.ErrNoMap)
+	wantRun(t, "B", b+text(0), easy(3), returned(0, 29, 3, 2, 1))
+	wantRun(t, "C", c+text(0, 4, 5, 2, 0), easy(3), returned(2, 4))
+	wantRun(t, "C with no input", c+text(0, 4, 5, 2, 0), easy(), returned(-1, 6))
+	wantRun(t, "C, another handler", c+text(0, 4, 5, 3, 0), easy(), uncaught(2, 3))
+	wantRun(t, "D with heap 1", d, api.Start{Heap: 1, Depth: 1, Fuel: 9}, returned(9, 6))
+	wantRun(t, "D with heap 0", d, api.Start{Depth: 1, Fuel: 9}, uncaught(5, 1))
+	wantRun(t, "Get of nothing", oneClass+text(1, 0, 0, 3, 4, 1, 17, 0, 22, 0, 0), easy(), uncaught(3, 2))
+}

@@ -2,6 +2,7 @@ package stackmap_test
 
 import (
 	"fmt"
+	"slices"
 	"strings"
 	"testing"
 
@@ -9,7 +10,7 @@ import (
 	"stackmap/stackmap"
 )
 
-// holdAgainstWords: Check, Strip and Prepare answer what the words give.
+// holdAgainstWords: Check, Strip, Prepare and Run answer what the words give. What Check refuses is run from a start that may not be.
 func holdAgainstWords(t *testing.T, file string) verdict {
 	t.Helper()
 	want, bare := byWords(file)
@@ -28,6 +29,11 @@ func holdAgainstWords(t *testing.T, file string) verdict {
 	if s, e, which := stackmap.Prepare(file); s != full || e != wantE || which != wantWhich {
 		t.Errorf("Prepare(%q) = %q, %d, %d, want %q, %d, %d", file, s, e, which, full, wantE, wantWhich)
 	}
+	if want.e != api.OK {
+		wantRefused(t, "what Check refuses", file, api.Start{Entry: -1, Inputs: []int{greatestOfAll}}, want.e)
+		return want
+	}
+	wantSame(t, file, want, api.Start{Inputs: []int{3, 0, 5, -1, api.LeastInt}, Heap: 5, Depth: 4, Fuel: 60}, map[string]int{})
 	return want
 }
 
@@ -122,9 +128,11 @@ func TestP1EveryCallEnds(t *testing.T) {
 			t.Errorf("Prepare(%.20q) = %q, %d, %d", file, s, e, which)
 		}
 		for _, n := range []int{leastOfAll, -1, 0, 1, greatestOfAll} {
-			o, e := stackmap.Run(file, api.Start{Entry: n, Inputs: []int{n, n}, Heap: n, Depth: n, Fuel: n})
-			if e != api.OK && (len(o.Out) != 0 || o.Status != 0 || o.Value != 0 || o.Steps != 0) {
-				t.Errorf("Run(%.20q) = %v, %d", file, o, e)
+			for _, s := range []api.Start{{Entry: n, Inputs: []int{n, n}, Heap: n, Depth: n, Fuel: n}, {Inputs: []int{n}, Heap: n & 15, Depth: 1 + n&3, Fuel: n & 2047}} {
+				o, e := stackmap.Run(file, s)
+				if e != api.OK && (len(o.Out) != 0 || o.Status != 0 || o.Value != 0 || o.Steps != 0) {
+					t.Errorf("Run(%.20q, %v) = %v, %d", file, s, o, e)
+				}
 			}
 		}
 	}
@@ -137,11 +145,14 @@ func answers(file string) string {
 	ok, g := stackmap.Fits(file, typed(ref(8)), typed(ref(7)))
 	j, h := stackmap.Join(file, typed(ref(8)), typed(ref(9)))
 	full, i, w := stackmap.Prepare(file)
-	return fmt.Sprintf("%d %d %d, %q %d, %v %d, %v %d, %q %d %d", e, which, at, s, f, ok, g, j, h, full, i, w)
+	o, k := stackmap.Run(file, easy(3, 1, 0))
+	p, l := stackmap.Run(full, easy(0, 7))
+	return fmt.Sprintf("%d %d %d, %q %d, %v %d, %v %d, %q %d %d, %v %d, %v %d", e, which, at, s, f, ok, g, j, h, full, i, w, o, k, p, l)
 }
 
 func TestP2ArgumentsAlone(t *testing.T) {
 	files := append(sources(), strange()[:20]...)
+	files = append(files, exampleA, exampleD, doors(), winding(), passing(nil, nil, nil, nil))
 	files = append(files, withClasses(class{7, nil}), withClasses(class{0, nil}, class{7, nil}, class{7, nil}), withClasses(class{1, nil}, class{0, nil}, class{8, nil}))
 	var first []string
 	for _, file := range files {
@@ -157,22 +168,59 @@ func TestP2ArgumentsAlone(t *testing.T) {
 	}
 }
 
-func TestP2Lists(t *testing.T) {
-	// Example A: reads a number and gives back one more.
-	file := text(83, 77, 0, 1, 255, 0, 0, 1, 0, 1, 2, 9, 24, 3, 0, 2, 0, 0, 1, 7, 22, 0, 0)
+// echo: reads n numbers and writes them.
+func echo(n int) string {
+	return bare(1, append(slices.Repeat([]int{api.OpIn, api.OpOut}, n), api.OpReturn), nil)
+}
+
+// Neither the list that is handed in nor its spare room is written into, and what is done to it later changes no answer.
+func TestP2ListsHandedIn(t *testing.T) {
 	room := []int{41, 7, -5, 1 << 40, -9}
-	s := api.Start{Inputs: room[:2], Depth: 1, Fuel: 9}
-	first, e := stackmap.Run(file, s)
-	before := fmt.Sprint(first, e)
-	spare := first.Out[:cap(first.Out)]
-	for i := range spare {
-		spare[i] = 99
+	files := []string{exampleA, echo(1), echo(5), doors(), ready(t, "B", exampleB+text(0)), "SM"}
+	for _, file := range files {
+		for n := range room {
+			s := easy(room[:n]...)
+			stackmap.Run(file, s)
+			s.Fuel = 1
+			stackmap.Run(file, s)
+			if got := fmt.Sprint(room, len(s.Inputs)); got != fmt.Sprint([]int{41, 7, -5, 1 << 40, -9}, n) {
+				t.Fatalf("the list that was handed in is now %s", got)
+			}
+		}
 	}
-	second, f := stackmap.Run(file, s)
-	if after := fmt.Sprint(second, f); after != before {
-		t.Errorf("Run = %s, then %s", before, after)
+	inputs := []int{1, 2, 3}
+	first, _ := stackmap.Run(echo(3), easy(inputs...))
+	for i := range inputs {
+		inputs[i] = 77
 	}
-	if got := fmt.Sprint(room, s.Inputs); got != fmt.Sprint([]int{41, 7, -5, 1 << 40, -9}, []int{41, 7}) {
-		t.Errorf("the list that was handed in is now %s", got)
+	if fmt.Sprint(first.Out) != "[1 2 3]" {
+		t.Errorf("what was read before is now %v", first.Out)
+	}
+}
+
+// The list that comes out is its owner's, with its spare room: nothing else is changed by what is written into it.
+func TestP2ListsThatComeOut(t *testing.T) {
+	inputs := []int{1, 2, 3, 4, 5}
+	var all []api.Outcome
+	for n := 0; n <= 5; n++ {
+		for k := 0; k < 2; k++ {
+			o, _ := stackmap.Run(echo(n), easy(inputs...))
+			all = append(all, o)
+		}
+	}
+	for i, o := range all {
+		if fmt.Sprint(o.Out) != fmt.Sprint(inputs[:i/2]) {
+			t.Errorf("list %d has become %v", i, o.Out)
+		}
+		spare := o.Out[:cap(o.Out)]
+		for k := range spare {
+			spare[k] = 99
+		}
+	}
+	for n := 0; n <= 5; n++ {
+		wantRun(t, "afterwards", echo(n), easy(inputs...), returned(0, 2*n+1, inputs[:n]...))
+	}
+	if fmt.Sprint(inputs) != "[1 2 3 4 5]" {
+		t.Errorf("the list that was handed in is now %v", inputs)
 	}
 }

@@ -1,4 +1,4 @@
-// Package stackmap: small machine programs whose types are checked in one pass, by maps that were made ahead: see DOC.md.
+// Package stackmap: small machine programs whose types are checked in one pass, by maps that were made ahead, and that then run without types: see DOC.md.
 package stackmap
 
 import (
@@ -7,16 +7,13 @@ import (
 	"stackmap/flow"
 	"stackmap/layout"
 	"stackmap/least"
+	"stackmap/machine"
 	"stackmap/types"
 )
 
 // Check tells whether a file is one, and whether each method's types are right, by its maps (P3 to P7, P10, P11).
 func Check(file string) (api.Errno, int, int) {
-	f, fault := read(file)
-	if fault.Err != api.OK {
-		return fault.Err, fault.Which, fault.At
-	}
-	fault = flow.Find(f)
+	_, fault := check(file)
 	return fault.Err, fault.Which, fault.At
 }
 
@@ -62,7 +59,30 @@ func Prepare(file string) (string, api.Errno, int) {
 }
 
 // Run runs a file that Check has nothing against (P13 to P15).
-func Run(file string, s api.Start) (api.Outcome, api.Errno) { return api.Outcome{}, api.OK }
+func Run(file string, s api.Start) (api.Outcome, api.Errno) {
+	f, fault := check(file)
+	if fault.Err != api.OK {
+		return api.Outcome{}, fault.Err
+	}
+	err := machine.StartError(f, s)
+	if err != api.OK {
+		return api.Outcome{}, err
+	}
+	return machine.Run(f, s), api.OK
+}
+
+// check gives a file's parts, or its first error of any kind.
+func check(file string) (layout.File, faults.Fault) {
+	f, fault := read(file)
+	if fault.Err != api.OK {
+		return layout.File{}, fault
+	}
+	fault = flow.Find(f)
+	if fault.Err != api.OK {
+		return layout.File{}, fault
+	}
+	return f, faults.Fault{}
+}
 
 // read gives a file's parts, or its first error of form.
 func read(file string) (layout.File, faults.Fault) {

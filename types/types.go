@@ -54,10 +54,15 @@ func (t Tree) Below(low, high int) bool {
 	return false
 }
 
+// Within tells whether one class is another or below it.
+func (t Tree) Within(low, high int) bool {
+	return low == high || t.Below(low, high)
+}
+
 // meet gives the lowest class that both are, or are below.
 func (t Tree) meet(a, b int) int {
 	for step := 0; step < len(t.above); step++ {
-		if a == b || t.Below(b, a) {
+		if t.Within(b, a) {
 			return a
 		}
 		a = t.over(a)

@@ -30,6 +30,9 @@ func TestBelow(t *testing.T) {
 		if is := tree.Below(c.low, c.high); is != c.is {
 			t.Errorf("Below(%d, %d) = %v", c.low, c.high, is)
 		}
+		if is := tree.Within(c.low, c.high); is != (c.is || c.low == c.high) {
+			t.Errorf("Within(%d, %d) = %v", c.low, c.high, is)
+		}
 	}
 }
 
@@ -63,6 +66,16 @@ func TestFields(t *testing.T) {
 	for _, n := range []int{-1, 4, 255} {
 		if class, field := tree.Field(n); tree.Has(class) || field != (api.Type{}) {
 			t.Errorf("Field(%d) = %d, %v", n, class, field)
+		}
+	}
+	for n, want := range []int{0, 1, 2, 2} {
+		if slot := tree.Slot(n); slot != want {
+			t.Errorf("Slot(%d) = %d, want %d", n, slot, want)
+		}
+	}
+	for _, n := range []int{-1, 4, 255} {
+		if slot := tree.Slot(n); slot >= 0 {
+			t.Errorf("Slot(%d) = %d", n, slot)
 		}
 	}
 	for class, want := range [][]api.Type{7: {whole, own}, 8: {whole, own}, 9: {whole, own, object}, 10: {whole, own, whole}, 11: {}} {
